@@ -13,7 +13,7 @@ func Make(key int, l []int) (int, error) { return Of(key, l...) }
 
 // Of makes one, too: the other layers tag two or three numbers, of which none is in a list yet.
 func Of(key int, numbers ...int) (int, error) {
-	if !fits(key) {
+	if !Fits(key) {
 		return 0, api.ErrRange
 	}
 	if len(numbers) > api.MaxList {
@@ -21,7 +21,7 @@ func Of(key int, numbers ...int) (int, error) {
 	}
 	tag := key
 	for _, n := range numbers {
-		if !fits(n) {
+		if !Fits(n) {
 			return 0, api.ErrRange
 		}
 		// The 1 lets a 0 count: without it, key 0 would have one tag for no number and for any row of noughts.
@@ -36,14 +36,14 @@ func Check(key int, l []int, tag int) (bool, error) {
 	if err != nil {
 		return false, err
 	}
-	if !fits(tag) {
+	if !Fits(tag) {
 		return false, api.ErrRange
 	}
 	return tag == right, nil
 }
 
-// fits tells whether n may be a key, a number or a tag: they have the same bounds.
-func fits(n int) bool { return n >= 0 && n < api.Modulo }
+// Fits tells whether n may be a key, a number or a tag: they have the same bounds, here and in the layers below.
+func Fits(n int) bool { return n >= 0 && n < api.Modulo }
 
 // fold stays far below the greatest int, as both fit (n may be one above).
 func fold(tag, n int) int { return (factor*tag + n) % api.Modulo }

@@ -168,6 +168,20 @@ func TestRange(t *testing.T) {
 	checkRefused(t, 3, []int{4}, right-api.Modulo, api.ErrRange)
 }
 
+// TestFits: the bounds, and what is beyond them on both sides.
+func TestFits(t *testing.T) {
+	for _, n := range []int{0, 1, 4711, last - 1, last} {
+		if !Fits(n) {
+			t.Errorf("Fits(%d): got false", n)
+		}
+	}
+	for _, n := range outside {
+		if Fits(n) {
+			t.Errorf("Fits(%d): got true", n)
+		}
+	}
+}
+
 // TestFull: as many numbers as may be, and more.
 func TestFull(t *testing.T) {
 	made(t, 3, row(api.MaxList, last))
